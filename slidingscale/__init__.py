@@ -1,0 +1,1 @@
+"""A scale, a slide along it, and what can be read from where their marks meet."""
