@@ -61,6 +61,12 @@ def meeting_marks(vernier, x):
     return [j for j in marks_along_scale(vernier, x) if far_off(vernier, x, j) == 0]
 
 
+def places_read(vernier, i):
+    """From the scale's mark i on, up to its next one, each x at which some marks meet, rising."""
+    start = i * vernier.a
+    return [x for x in range(start, start + vernier.a) if len(meeting_marks(vernier, x)) > 0]
+
+
 def fits(vernier, b, wanted):
     """Whether a slide with marks every b parts reads just as fine as wanted, with the marks there are."""
     return fineness(vernier.a, b) == wanted and has_marks_for(vernier, turns_needed(vernier.a, b))

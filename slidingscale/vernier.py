@@ -9,6 +9,7 @@ from slidingscale.scales import marks_along_scale
 from slidingscale.scales import marks_further
 from slidingscale.scales import meeting_marks
 from slidingscale.scales import place_of
+from slidingscale.scales import places_read
 from slidingscale.scales import scale_length
 from slidingscale.scales import turns_needed
 
@@ -38,6 +39,11 @@ def begin(line, handed):
             return [NOT_ALLOWED]
     line.vernier = Vernier(handed[0], handed[1], handed[2], handed[3])
     return [0]
+
+
+def counted(found):
+    """How many, then they."""
+    return [len(found)] + found
 
 
 def fine(vernier, handed):
@@ -86,16 +92,64 @@ def slides(vernier, handed):
     wanted = handed[0]
     if wanted == 0:
         return [NOT_ALLOWED]
-    fitting = [b for b in range(1, 2 * vernier.a) if fits(vernier, b, wanted)]
-    return [len(fitting)] + fitting
+    return counted([b for b in range(1, 2 * vernier.a) if fits(vernier, b, wanted)])
 
 
 def step(vernier, handed):
     return [marks_further(vernier.a, vernier.b)]
 
 
+def wear(vernier, handed):
+    j = handed[0]
+    if j > vernier.n:
+        return [NOT_ALLOWED]
+    if j in vernier.worn:
+        return [WORN_OFF]
+    vernier.worn.append(j)
+    return [len(vernier.worn)]
+
+
+def readable(vernier, handed):
+    i = handed[0]
+    # The scale's last mark is refused too: there is none behind it.
+    if i >= vernier.m:
+        return [NOT_ALLOWED]
+    return counted(places_read(vernier, i))
+
+
+def zero(vernier, handed):
+    z = handed[0]
+    if z < -MOST or z > MOST:
+        return [NOT_ALLOWED]
+    vernier.zero = z
+    return [0]
+
+
+def slide(vernier, handed):
+    x = handed[0]
+    if x > scale_length(vernier):
+        return [NOT_ALLOWED]
+    vernier.out_by = x
+    return [len(meeting_marks(vernier, x))]
+
+
+def read(vernier, handed):
+    if len(meeting_marks(vernier, vernier.out_by)) == 0:
+        return [NOT_THERE]
+    # What is read may be below 0; the 0 ahead of it tells it from a refusal.
+    return [0, vernier.out_by - vernier.zero]
+
+
+def look(vernier, handed):
+    sizes = [vernier.a, vernier.b, vernier.m, vernier.n]
+    return sizes + [vernier.zero, vernier.out_by] + counted(vernier.worn)
+
+
 # By a call's number, what answers it where there is a vernier.
-ANSWERED_BY = {1: fine, 2: meets, 3: out, 4: nearest, 5: slides, 6: step}
+ANSWERED_BY = {
+    1: fine, 2: meets, 3: out, 4: nearest, 5: slides, 6: step, 7: wear, 8: readable, 9: zero, 10: slide, 11: read,
+    12: look,
+}
 
 
 def answer_to(line, number, handed):

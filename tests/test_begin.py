@@ -2,7 +2,7 @@
 
 import unittest
 
-from helper import ask, ask_of, one_on, worn_line
+from helper import ask, ask_of
 
 WITHOUT_A_VERNIER = [
     ("fine",), ("meets", 0), ("out", 0, 0), ("nearest", 0), ("slides", 1), ("step",), ("wear", 0),
@@ -12,6 +12,15 @@ WOULD_BE_REFUSED_ANYHOW = [
     ("meets", 5000), ("out", 99, 99), ("nearest", 5000), ("slides", 0), ("wear", 99), ("readable", 99),
     ("zero", -99), ("zero", 99), ("slide", 5000),
 ]
+# Something of all that a vernier keeps.
+USED = [("wear", 3), ("wear", 0), ("zero", 5), ("slide", 7)]
+# Each refusal that such a vernier, (10, 9, 20, 10), gives.
+REFUSED = {
+    ("begin", 61, 1, 1, 1): -1, ("begin", 1, 1, 1, 0): -1, ("meets", 201): -1, ("out", 21, 0): -1, ("out", 0, 11): -1,
+    ("out", 4, 3): -3, ("out", 0, 1): -6, ("nearest", 201): -1, ("nearest", 200): -6, ("slides", 0): -1,
+    ("wear", 11): -1, ("wear", 3): -3, ("readable", 20): -1, ("readable", 21): -1, ("zero", -61): -1,
+    ("zero", 61): -1, ("slide", 201): -1,
+}
 
 
 class Begin(unittest.TestCase):
@@ -41,23 +50,22 @@ class Begin(unittest.TestCase):
         self.assertEqual(told, [[0], [1, 10, 1], [0], [4, 3, 0], [52], [-1]])
 
     def test_starts_with_nothing_worn_off_zero_0_and_out_by_0(self):
-        line = worn_line((10, 9, 20, 10), [0, 3])
-        line.vernier.zero = 5
-        line.vernier.out_by = 7
-        self.assertEqual(one_on(line, "begin", 10, 9, 20, 10), [0])
-        self.assertEqual(line.vernier.worn, [])
-        self.assertEqual(line.vernier.zero, 0)
-        self.assertEqual(line.vernier.out_by, 0)
+        self.assertEqual(ask_of((10, 9, 20, 11), ("look",)), [[10, 9, 20, 11, 0, 0, 0]])
+
+    def test_sets_all_anew_with_a_vernier_there_already(self):
+        told = ask_of((10, 9, 20, 10), *USED, ("begin", 12, 8, 5, 7), ("look",), ("meets", 4), ("wear", 4), ("read",))
+        self.assertEqual(told[len(USED):], [[0], [12, 8, 5, 7, 0, 0, 0], [3, 1, 1, 3, 4, 5, 7], [1], [0, 0]])
+
+    def test_sets_all_anew_with_the_same_numbers_too(self):
+        told = ask_of((10, 9, 20, 10), *USED, ("begin", 10, 9, 20, 10), ("look",))
+        self.assertEqual(told[-1], [10, 9, 20, 10, 0, 0, 0])
 
     def test_a_refusal_leaves_the_vernier_as_it_was(self):
-        line = worn_line((10, 9, 20, 10), [3])
-        line.vernier.zero = 5
-        line.vernier.out_by = 7
-        self.assertEqual(one_on(line, "begin", 10, 9, 20, 61), [-1])
-        self.assertEqual(one_on(line, "out", 20, 10), [110])
-        self.assertEqual(line.vernier.worn, [3])
-        self.assertEqual(line.vernier.zero, 5)
-        self.assertEqual(line.vernier.out_by, 7)
+        for refused in [(0, 8, 5, 7), (12, 61, 5, 7), (12, 8, 0, 7), (12, 8, 5, 61)]:
+            told = ask_of((10, 9, 20, 10), *USED, ("begin", *refused), ("look",), ("out", 20, 10), ("meets", 3),
+                          ("read",))
+            due = [[-1], [10, 9, 20, 10, 5, 7, 2, 3, 0], [110], [0], [0, 2]]
+            self.assertEqual(told[len(USED):], due, refused)
 
 
 class WithoutAVernier(unittest.TestCase):
@@ -80,17 +88,20 @@ class WithoutAVernier(unittest.TestCase):
 
 class Refusals(unittest.TestCase):
     def test_they_change_nothing(self):
-        asked = [("fine",), ("meets", 4), ("out", 3, 2), ("nearest", 5), ("slides", 2), ("step",)]
-        refused = [
-            ("begin", 61, 1, 1, 1), ("begin", 1, 1, 1, 0), ("meets", 201), ("out", 21, 0), ("out", 0, 11),
-            ("out", 0, 1), ("nearest", 201), ("slides", 0),
+        asked = [
+            ("look",), ("read",), ("fine",), ("meets", 4), ("out", 4, 2), ("nearest", 5), ("slides", 2), ("step",),
+            ("readable", 19), ("wear", 9), ("look",),
         ]
-        undisturbed = ask_of((10, 9, 20, 10), *asked)
-        for call in refused:
-            told = ask_of((10, 9, 20, 10), call, *asked)
-            self.assertEqual(len(told[0]), 1, call)
-            self.assertLess(told[0][0], 0, call)
-            self.assertEqual(told[1:], undisturbed, call)
+        undisturbed = ask_of((10, 9, 20, 10), *USED, *asked)
+        for call, due in REFUSED.items():
+            told = ask_of((10, 9, 20, 10), *USED, call, *asked)
+            self.assertEqual(told[len(USED)], [due], call)
+            self.assertEqual(told[:len(USED)] + told[len(USED) + 1:], undisturbed, call)
+
+    def test_read_refused_changes_nothing(self):
+        told = ask_of((10, 9, 20, 10), *USED, ("wear", 7), ("look",), ("read",), ("look",))
+        self.assertEqual(told[-2], [-6])
+        self.assertEqual(told[-1], told[-3])
 
 
 if __name__ == "__main__":

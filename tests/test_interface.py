@@ -10,10 +10,12 @@ from helper import ask, flat
 
 MIXED = [
     ("step",), ("begin", 10, 9, 20, 10), ("fine",), ("meets", 0), ("meets", 201), ("out", 7, 4), ("nearest", 5),
-    ("slides", 5), ("step",), ("begin", 0, 0, 0, 0), ("out", 0, 9),
+    ("slides", 5), ("step",), ("begin", 0, 0, 0, 0), ("out", 0, 9), ("wear", 10), ("wear", 0), ("readable", 19),
+    ("zero", -7), ("slide", 191), ("read",), ("zero", 61), ("look",), ("slide", 200), ("read",), ("wear", 10),
 ]
 MIXED_ANSWERED = [
     1, -9, 1, 0, 3, 1, 10, 1, 5, 2, 0, 0, 9, 10, 1, -1, 1, 34, 2, 0, 5, 3, 2, 5, 15, 1, 1, 1, -1, 1, -6,
+    1, 1, 1, 2, 2, 1, 191, 1, 0, 1, 1, 2, 0, 198, 1, -1, 9, 10, 9, 20, 10, -7, 191, 2, 10, 0, 1, 0, 1, -6, 1, -3,
 ]
 
 
@@ -24,6 +26,8 @@ class Interface(unittest.TestCase):
     def test_the_numbers_of_the_calls(self):
         self.assertEqual(answers([0, 10, 9, 20, 10, 1, 2, 4, 3, 7, 4, 4, 3, 5, 5, 6]),
                          [1, 0, 3, 1, 10, 1, 3, 1, 4, 4, 1, 34, 2, 0, 3, 3, 2, 5, 15, 1, 1])
+        self.assertEqual(answers([0, 10, 9, 20, 10, 7, 1, 8, 19, 9, 6, 10, 3, 11, 12]),
+                         [1, 0, 1, 1, 2, 1, 190, 1, 0, 1, 1, 2, 0, -3, 8, 10, 9, 20, 10, 6, 3, 1, 1])
 
     def test_one_call_alone(self):
         self.assertEqual(answers([0, 10, 9, 20, 10]), [1, 0])
@@ -49,6 +53,8 @@ class Interface(unittest.TestCase):
     def test_nothing_is_kept_from_one_time_to_the_next(self):
         self.assertEqual(answers(flat(("begin", 10, 9, 20, 10))), [1, 0])
         self.assertEqual(answers(flat(("fine",))), [1, -9])
+        self.assertEqual(answers(flat(("begin", 10, 9, 20, 10), ("wear", 3), ("zero", 4), ("slide", 5)))[0], 1)
+        self.assertEqual(ask(("begin", 10, 9, 20, 10), ("look",))[1], [10, 9, 20, 10, 0, 0, 0])
         first = answers(flat(*MIXED))
         first.clear()
         self.assertEqual(answers(flat(*MIXED)), MIXED_ANSWERED)

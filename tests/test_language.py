@@ -1,4 +1,4 @@
-"""The rules of LANGUAGE.md that can be seen in the package's files one by one."""
+"""The rules of LANGUAGE.md that can be seen in the package's files without running them."""
 
 import ast
 import builtins
@@ -26,6 +26,8 @@ NODES_LEFT_OUT = (
     ast.AsyncFunctionDef, ast.AsyncFor, ast.AsyncWith, ast.SetComp, ast.DictComp, ast.GeneratorExp, ast.NamedExpr,
     ast.Starred, ast.Div, ast.Import,
 )
+VALUES_LEFT_OUT = set(
+    "items keys values pop update append clear extend insert remove reverse setdefault sort args encode".split())
 TOP_NODES = (ast.FunctionDef, ast.ClassDef, ast.ImportFrom, ast.Assign)
 
 
@@ -127,6 +129,59 @@ class Forms(unittest.TestCase):
                 self.assertEqual(node.decorator_list, [], where(name, node))
             if isinstance(node, ast.arguments):
                 self.assertEqual((node.vararg, node.kwarg, node.kwonlyargs, node.posonlyargs), (None, None, [], []))
+
+
+class NamesOverall(unittest.TestCase):
+    def test_each_name_is_bound_once_at_a_files_top(self):
+        for name, tree in trees():
+            bound = []
+            for node in tree.body[1:]:
+                if isinstance(node, ast.ImportFrom):
+                    bound.extend(alias.asname or alias.name for alias in node.names)
+                elif isinstance(node, ast.Assign):
+                    bound.append(node.targets[0].id)
+                else:
+                    bound.append(node.name)
+            self.assertEqual(len(bound), len(set(bound)), name)
+
+    def test_lists_and_dicts_of_a_files_top_are_only_read_by_an_index(self):
+        for name, tree in trees():
+            kept = [node.targets[0].id for node in tree.body if isinstance(node, ast.Assign)
+                    and isinstance(node.value, (ast.List, ast.Dict, ast.Tuple))]
+            read = [node.value for node in ast.walk(tree)
+                    if isinstance(node, ast.Subscript) and isinstance(node.ctx, ast.Load)]
+            for node in ast.walk(tree):
+                if isinstance(node, ast.Name) and node.id in kept and isinstance(node.ctx, ast.Load):
+                    self.assertIn(node, read, where(name, node))
+
+    def test_parameters_and_locals_are_not_called_like_a_class_or_an_import(self):
+        for name, tree in trees():
+            taken = {node.name for node in tree.body if isinstance(node, ast.ClassDef)}
+            for node in tree.body:
+                if isinstance(node, ast.ImportFrom):
+                    taken.update(alias.name for alias in node.names)
+            for node in ast.walk(tree):
+                if isinstance(node, ast.arg):
+                    self.assertNotIn(node.arg, taken, where(name, node))
+                if isinstance(node, ast.Name) and isinstance(node.ctx, ast.Store):
+                    self.assertNotIn(node.id, taken, where(name, node))
+
+    def test_no_name_is_both_a_method_and_a_value(self):
+        methods = set()
+        stored = set()
+        for name, node in every_node():
+            if isinstance(node, ast.ClassDef):
+                methods.update(inner.name for inner in node.body if isinstance(inner, ast.FunctionDef))
+            if isinstance(node, ast.Attribute) and isinstance(node.ctx, ast.Store):
+                stored.add(node.attr)
+        self.assertEqual(methods & stored, set())
+        self.assertEqual(stored & VALUES_LEFT_OUT, set())
+
+    def test_is_stands_beside_none_true_and_false_alone(self):
+        for name, node in every_node():
+            if isinstance(node, ast.Compare) and any(isinstance(sign, (ast.Is, ast.IsNot)) for sign in node.ops):
+                self.assertIsInstance(node.comparators[0], ast.Constant, where(name, node))
+                self.assertIn(node.comparators[0].value, (None, True, False), where(name, node))
 
 
 if __name__ == "__main__":

@@ -2,33 +2,7 @@
 
 import unittest
 
-from helper import ask_of, one_of, one_on, worn_line
-
-VERNIERS = [
-    (10, 9, 20, 10), (10, 11, 20, 10), (12, 8, 5, 7), (8, 12, 5, 7), (1, 1, 1, 1), (1, 1, 60, 60), (7, 21, 6, 9),
-    (60, 1, 1, 60), (1, 60, 60, 60), (60, 59, 3, 60), (5, 5, 4, 12), (6, 10, 9, 3), (9, 2, 1, 1), (13, 40, 2, 2),
-]
-WORN = [[], [0], [1], [1, 0], [0, 1, 2, 3, 4, 5]]
-
-
-def meets_by_looking(vernier, worn, x):
-    """By putting every mark of the one beside every mark of the other."""
-    a, b, m, n = vernier
-    pairs = [(i, j) for j in range(n + 1) for i in range(m + 1) if j not in worn and i * a == x + j * b]
-    return [len(pairs)] + [mark for pair in pairs for mark in pair]
-
-
-def nearest_by_looking(vernier, worn, x):
-    """By measuring to multiples of a on both sides, beyond the scale's end too."""
-    a, b, m, n = vernier
-    best = [-6]
-    for j in range(n + 1):
-        place = x + j * b
-        if j not in worn and place <= m * a:
-            off = min(abs(place - i * a) for i in range(m + 2))
-            if best == [-6] or off < best[0]:
-                best = [off, j]
-    return best
+from helper import ask_of, ask_worn, meets_by_looking, nearest_by_looking, one_of, one_worn, worn_verniers
 
 
 class Meets(unittest.TestCase):
@@ -65,19 +39,17 @@ class Meets(unittest.TestCase):
         self.assertEqual(one_of((60, 60, 60, 60), "meets", 5000), [-1])
 
     def test_marks_worn_off_are_left_out(self):
-        line = worn_line((12, 8, 5, 7), [4])
-        self.assertEqual(one_on(line, "meets", 4), [2, 1, 1, 5, 7])
-        line = worn_line((10, 9, 20, 10), [3])
-        self.assertEqual(one_on(line, "meets", 3), [0])
-        self.assertEqual(one_on(line, "meets", 201), [-1])
+        self.assertEqual(one_worn((12, 8, 5, 7), [4], "meets", 4), [2, 1, 1, 5, 7])
+        told = ask_worn((10, 9, 20, 10), [3], ("meets", 3), ("meets", 4), ("meets", 201))
+        self.assertEqual(told, [[0], [1, 4, 4], [-1]])
+        self.assertEqual(one_worn((10, 9, 20, 10), [0], "meets", 0), [1, 9, 10])
+        self.assertEqual(one_worn((10, 9, 20, 10), [10], "meets", 0), [1, 0, 0])
 
     def test_every_x_of_some_verniers(self):
-        for vernier in VERNIERS:
-            for worn in WORN:
-                line = worn_line(vernier, worn)
-                for x in range(vernier[0] * vernier[2] + 1):
-                    due = meets_by_looking(vernier, worn, x)
-                    self.assertEqual(one_on(line, "meets", x), due, (vernier, worn, x))
+        for vernier, worn in worn_verniers():
+            every = range(vernier[0] * vernier[2] + 1)
+            told = ask_worn(vernier, worn, *[("meets", x) for x in every])
+            self.assertEqual(told, [meets_by_looking(vernier, worn, x) for x in every], (vernier, worn))
 
 
 class Out(unittest.TestCase):
@@ -105,16 +77,12 @@ class Out(unittest.TestCase):
         self.assertEqual(one_of((1, 2, 1, 1), "out", 1, 1), [-6])
 
     def test_a_mark_worn_off(self):
-        line = worn_line((10, 9, 20, 10), [4, 0])
-        self.assertEqual(one_on(line, "out", 7, 4), [-3])
-        self.assertEqual(one_on(line, "out", 7, 0), [-3])
-        self.assertEqual(one_on(line, "out", 4, 3), [13])
+        told = ask_worn((10, 9, 20, 10), [4, 0, 10], ("out", 7, 4), ("out", 7, 0), ("out", 20, 10), ("out", 4, 3))
+        self.assertEqual(told, [[-3], [-3], [-3], [13]])
 
     def test_where_several_are_due_the_first_told_counts(self):
-        line = worn_line((10, 9, 20, 10), [4])
-        self.assertEqual(one_on(line, "out", 21, 4), [-1])
-        self.assertEqual(one_on(line, "out", 0, 11), [-1])
-        self.assertEqual(one_on(line, "out", 0, 4), [-3])
+        told = ask_worn((10, 9, 20, 10), [4], ("out", 21, 4), ("out", 0, 11), ("out", 0, 4))
+        self.assertEqual(told, [[-1], [-1], [-3]])
 
     def test_it_is_where_meets_shows_the_pair(self):
         for i, j in [(0, 0), (5, 3), (20, 10), (9, 10)]:
@@ -154,33 +122,33 @@ class Nearest(unittest.TestCase):
         self.assertEqual(one_of((60, 60, 60, 60), "nearest", 5000), [-1])
 
     def test_none_where_the_marks_along_the_scale_are_worn_off(self):
-        line = worn_line((10, 9, 20, 10), [0])
-        self.assertEqual(one_on(line, "nearest", 200), [-6])
-        self.assertEqual(one_on(line, "nearest", 192), [-6])
-        self.assertEqual(one_on(line, "nearest", 191), [0, 1])
-        self.assertEqual(one_on(line, "nearest", 0), [0, 10])
-        line = worn_line((10, 9, 20, 1), [1, 0])
-        self.assertEqual(one_on(line, "nearest", 0), [-6])
+        told = ask_worn((10, 9, 20, 10), [0], ("nearest", 200), ("nearest", 192), ("nearest", 191), ("nearest", 0))
+        self.assertEqual(told, [[-6], [-6], [0, 1], [0, 10]])
+
+    def test_none_where_all_are_worn_off(self):
+        self.assertEqual(ask_worn((10, 9, 20, 1), [1, 0], ("nearest", 0), ("nearest", 200)), [[-6], [-6]])
+        self.assertEqual(one_worn((10, 9, 20, 10), [5, 0, 10, 9, 1, 8, 2, 7, 3, 6, 4], "nearest", 5), [-6])
+
+    def test_the_next_best_where_the_nearest_is_worn_off(self):
+        self.assertEqual(one_worn((10, 9, 20, 10), [3], "nearest", 3), [1, 2])
+        self.assertEqual(one_worn((10, 9, 20, 10), [3, 2], "nearest", 3), [1, 4])
 
     def test_where_several_are_due_the_first_told_counts(self):
-        line = worn_line((10, 9, 20, 1), [1, 0])
-        self.assertEqual(one_on(line, "nearest", 201), [-1])
+        self.assertEqual(one_worn((10, 9, 20, 1), [1, 0], "nearest", 201), [-1])
 
     def test_every_x_of_some_verniers(self):
-        for vernier in VERNIERS:
-            for worn in WORN:
-                line = worn_line(vernier, worn)
-                for x in range(vernier[0] * vernier[2] + 1):
-                    due = nearest_by_looking(vernier, worn, x)
-                    self.assertEqual(one_on(line, "nearest", x), due, (vernier, worn, x))
+        for vernier, worn in worn_verniers():
+            every = range(vernier[0] * vernier[2] + 1)
+            told = ask_worn(vernier, worn, *[("nearest", x) for x in every])
+            self.assertEqual(told, [nearest_by_looking(vernier, worn, x) for x in every], (vernier, worn))
 
 
 class MarksWornOff(unittest.TestCase):
     def test_they_count_for_fine_slides_and_step_all_the_same(self):
         whole = ask_of((10, 9, 20, 9), ("fine",), ("slides", 1), ("step",))
-        line = worn_line((10, 9, 20, 9), [0, 5, 9])
-        worn = [one_on(line, "fine"), one_on(line, "slides", 1), one_on(line, "step")]
+        worn = ask_worn((10, 9, 20, 9), [0, 5, 9], ("fine",), ("slides", 1), ("step",))
         self.assertEqual(worn, whole)
+        self.assertEqual(worn, [[1, 10, 1], [8, 1, 3, 7, 9, 11, 13, 17, 19], [1]])
 
 
 if __name__ == "__main__":

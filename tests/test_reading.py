@@ -2,37 +2,7 @@
 
 import unittest
 
-from helper import ask_of, one_of
-
-
-def meeting_x(a, b):
-    """From 0 up to a, each x at which a mark of an endless slide meets the scale."""
-    return [x for x in range(a + 1) if any((x + j * b) % a == 0 for j in range(a))]
-
-
-def told_by_looking(a, b):
-    """How fine it reads and the turns, by going through the marks as the words tell them."""
-    places = meeting_x(a, b)
-    met = dict.fromkeys(places[:-1], 0)
-    turns = 0
-    while any(often == 0 for often in met.values()):
-        for x in met:
-            met[x] += (x + turns * b) % a == 0
-        turns += 1
-    assert all(often == 1 for often in met.values())
-    return places[1] - places[0], turns
-
-
-def step_by_looking(a, b):
-    """From the mark that meets to the one that does instead, from each x on; it is one number for all."""
-    fine, turns = told_by_looking(a, b)
-    steps = set()
-    for x in range(0, 2 * a, fine):
-        here = [j for j in range(turns) if (x + j * b) % a == 0]
-        then = [j for j in range(turns) if (x + fine + j * b) % a == 0]
-        steps.add((then[0] - here[0]) % turns)
-    assert len(steps) == 1
-    return steps.pop()
+from helper import ask_of, one_of, step_by_looking, told_by_looking
 
 
 class Fine(unittest.TestCase):
